@@ -1,0 +1,1 @@
+"""Anylength: procedures over tables, decided for tables of every length."""
