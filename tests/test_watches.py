@@ -11,6 +11,8 @@ from tests.support import asked, slow_terms, some_formula, some_table
 watch_layout = asked(module.watch_layout)
 watched = asked(module.watched)
 right_at_end = asked(module.right_at_end)
+# No part of the interface: told tables pick no row twice, but questions can.
+step = asked(module.watch_step)
 
 NOTHING = ((), ())
 ASCENDING = ((("<=", "k0", "K0"),),)
@@ -106,6 +108,15 @@ class Watched(unittest.TestCase):
         self.assertEqual(on(clause, True, table, row=1), (start, start) + (held[3],) * 3)
         self.assertEqual(on(clause, True, table, row=2), (start,) * 3 + (held[6], hit))
         self.assertEqual(on(clause, True, table, row=3), (start,) * 4 + (held[4],))
+
+    def test_a_second_row_that_is_picked_is_refused(self):
+        names = (("x0", 1), ("q0", True))
+        for bits in ((True, False), (False, True), (True, True)):
+            with self.subTest(bits=bits):
+                found = step(("pairs", ASCENDING), True, names, ((3,), bits), ((9,), (9,)), True)
+                self.assertIsNone(found)
+        found = step(("pairs", ASCENDING), True, names, ((0,), (False, False)), ((8,), (9,)), True)
+        self.assertEqual(found, ((9,), (False, True)))
 
     def test_it_lets_go_of_kept_bits_too(self):
         formula = ((("<", "k0", "K0"), ("is", "m0", True), ("is", "u0", True)),)
