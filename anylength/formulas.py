@@ -28,7 +28,7 @@ def literal_holds(literal, told):
     op, a, b = literal
     if op == "is":
         return told[a] == b
-    left, right = key_of(a, told), key_of(b, told)
+    left, right = value_of(a, told), value_of(b, told)
     if op == "<":
         return left < right
     if op == "<=":
@@ -38,9 +38,14 @@ def literal_holds(literal, told):
     return left != right
 
 
-def key_of(source, told):
-    """The key of a key source, by a dict from terms to what they stand for."""
-    return 0 if source == 0 else told[source]
+def value_of(source, told):
+    """The key or the bit of a source, by a dict from terms to what they stand for."""
+    return told[source] if isinstance(source, str) else source
+
+
+def values_of(sources, told):
+    """The tuple of the keys or the bits of the sources, by a dict likewise."""
+    return tuple([value_of(source, told) for source in sources])
 
 
 def terms_of(formula):

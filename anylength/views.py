@@ -6,10 +6,14 @@ def numbered(letter, values):
     return tuple([(f"{letter}{at}", values[at]) for at in range(len(values))])
 
 
+def lettered(letters, values):
+    """The view of several tuples of values, each with a letter of its own."""
+    return tuple([pair for letter, part in zip(letters, values) for pair in numbered(letter, part)])
+
+
 def names_view(givens, results):
     """The view of the givens and the results of a unit."""
-    given = numbered("x", givens[0]) + numbered("p", givens[1])
-    return given + numbered("y", results[0]) + numbered("q", results[1])
+    return lettered("xpyq", (*givens, *results))
 
 
 def fields_of(row):

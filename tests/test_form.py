@@ -24,7 +24,7 @@ NODES = set(
     "AugAssign If For While Break Continue Pass Raise Name Load Store Attribute Call Subscript "
     "Slice Tuple List Dict ListComp DictComp SetComp comprehension IfExp BoolOp And Or UnaryOp "
     "Not USub BinOp Add Sub Mult FloorDiv Mod Pow Compare Eq NotEq Lt LtE Gt GtE Is IsNot In "
-    "NotIn JoinedStr FormattedValue Starred keyword".split()
+    "NotIn JoinedStr FormattedValue Starred keyword Yield".split()
 )
 # Names that rules L8, L15 and L17 keep free, beside those of the builtins above.
 BARRED = set(

@@ -33,7 +33,42 @@ LISTED = {
         "watched(clause, broken, givens, results, found, now, *, row=None)",
         "right_at_end(clause, broken, state)",
     ),
+    "walks": (
+        "begin(walk, names)",
+        "visit(walk, names, state, row)",
+        "fired(walk, names, state, row)",
+        "states_between(walk, names, table)",
+        "go(walk, names, table)",
+        "goes(walk, names, found, states, now)",
+        "visits(walk, names, table)",
+    ),
+    "contracts": (
+        "check_contract(shape, contract)",
+        "begins(contract, givens, table)",
+        "ends(contract, givens, results, found, now)",
+        "answer_fault(contract, givens, found, answer)",
+        "bracket(contract, formula, many)",
+    ),
+    "bodies": ("check_body(library, unit, body)", "names_made(library, body)"),
+    "libraries": (
+        "check_library(library)",
+        "callers(library, unit)",
+        "reaches(library, unit)",
+        "out_of_order(library, unit)",
+        "bound(library, unit, rows)",
+        "with_after(library, unit, clauses)",
+    ),
+    "runs": (
+        "run(library, unit, givens, table, *, most=20)",
+        "traced(library, unit, givens, table, *, most=20)",
+        "answered(library, unit, givens, table, answers)",
+    ),
+    "obligations": ("obligations(library, unit)", "pieces(question, told)"),
+    "playing": ("play(question, told)",),
+    "questions": ("layout(question)", "guessed(question)", "width(question)"),
 }
+# The functions that the document calls generators.
+GENERATORS = ("visits",)
 
 
 class Interface(unittest.TestCase):
@@ -46,6 +81,8 @@ class Interface(unittest.TestCase):
                     self.assertTrue(inspect.isfunction(function))
                     self.assertEqual(function.__module__, f"anylength.{name}")
                     self.assertEqual(function.__name__ + str(inspect.signature(function)), wanted)
+                    generates = function.__name__ in GENERATORS
+                    self.assertIs(inspect.isgeneratorfunction(function), generates)
 
 
 if __name__ == "__main__":

@@ -3,10 +3,18 @@
 import unittest
 
 from anylength.amalgams import amalgams, chained
+from anylength.bodies import check_body, names_made
 from anylength.clauses import failure, keeps
+from anylength.contracts import answer_fault, bracket, check_contract, ends
 from anylength.formulas import holds, needs, terms_of
+from anylength.libraries import bound, check_library, with_after
 from anylength.logic import against, negated, possible
-from anylength.orders import alike, extensions, orders, ranks
+from anylength.obligations import obligations, pieces
+from anylength.orders import alike, count_orders, extensions, orders, ranks
+from anylength.playing import play
+from anylength.questions import guessed, layout, width
+from anylength.runs import answered, run, traced
+from anylength.walks import go, goes, states_between, visits
 from anylength.watches import watch_layout, watched
 from tests.support import slow_ranks
 
@@ -67,6 +75,50 @@ class PassedOn(unittest.TestCase):
         self.assertTrue(keeps(("pairs", ((("<", "k0", "K0"),),)), NOTHING, NOTHING, table, table))
         often = ("change", ((("=", "k0", "v0"),),), 1, ())
         self.assertTrue(keeps(often, NOTHING, NOTHING, table, table[::-1]))
+
+    def test_long_tables_and_great_keys_of_walks(self):
+        walk = ("down", (0,), (), (((("<", "r0", "k0"),), (("r0", "k0"),), False),), ("r0",))
+        table = tuple((10 ** 50 + at,) for at in range(300))
+        names = ((), (), (), ())
+        self.assertEqual(go(walk, names, table), ((10 ** 50 + 299,), (), table))
+        states = states_between(walk, names, table)
+        self.assertTrue(goes(walk, names, table, states, table))
+        self.assertEqual(len(tuple(visits(walk, names, table))), 300)
+
+    def test_contracts_and_libraries_with_many_clauses(self):
+        bare = ((1, 0), (0, 0), (), (), None)
+        walk = ("up", ("x0",), (), (), ())
+        told = ((1, 1), ((bare, ((walk,), (), ())), (bare, ((("call", 0, ("x0",), (), ()),), (), ()))))
+        clauses = (("next", WIDE), ("next", negated(WIDE)), ("names", ((),)))
+        for _ in range(3):
+            told = with_after(told, 0, clauses)
+        often = ("change", negated(((("is", "m0", True), ("<", "k0", 0)),)), 0, ())
+        told = with_after(told, 0, (often,))
+        contract = told[1][0][0]
+        self.assertIsNone(check_contract(told[0], contract))
+        self.assertIsNone(check_library(told))
+        self.assertIsNone(check_body(told, 1, told[1][1][1]))
+        self.assertEqual(names_made(told, told[1][1][1]), (((), ()),))
+        self.assertEqual(len(obligations(told, 0)), 10)
+        self.assertEqual(bracket(contract, often[1], 0), 9)
+        # A table that is long, and one pair of neighbours that only one of the clauses forbids.
+        table = tuple((at, True) for at in range(30))
+        self.assertEqual(ends(contract, ((3,), ()), NOTHING, table, table), 0)
+        self.assertEqual(answer_fault(contract, ((3,), ()), table, ((), (), table)), ("clause", 0))
+        self.assertEqual(run(told, 1, ((3,), ()), table), (NOTHING, table))
+        answers = traced(told, 1, ((3,), ()), table)[2]
+        self.assertEqual(answered(told, 1, ((3,), ()), table, answers), ("answer", 0, ("clause", 0)))
+        question, one = (told, 1, ("clause", often)), ((3,), ())
+        self.assertEqual(play(question, (one, table, answers, 0)), ("answer", 0, ("clause", 0)))
+        self.assertEqual(play((told, 0, ("after", 9)), (one, table, (), 0)), ("kept",))
+        self.assertEqual(pieces((told, 0, ("after", 9)), (one, table, (), 0)), ((0,), 0))
+        self.assertEqual(bound(told, 1, 12), 2)
+        keys, bits = layout(question)
+        more_keys, more_bits = guessed(question)[1]
+        # Of each of the six watched clauses there is a kept key, begun, and a kept bit.
+        self.assertEqual((len(keys), len(bits)), (1 + 6, 12))
+        wanted = count_orders(len(keys + more_keys)) * 2 ** len(bits + more_bits)
+        self.assertEqual(width(question), wanted)
 
 
 if __name__ == "__main__":
