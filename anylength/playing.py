@@ -6,12 +6,11 @@ from anylength.contracts import first_broken
 from anylength.obligations import pieces
 from anylength.times import (
     by_items,
-    first_fault,
     first_time,
     given_back,
     guard_holds,
     passed,
-    told_times,
+    time_or_fault,
 )
 from anylength.units import body_of
 
@@ -29,14 +28,13 @@ def play(question, told):
         return verdict(unlike_at(question, givens, table))
     items = items_asked(question)
     each = by_items(items, answers)
-    times = told_times(library, items, first_time(givens, table), each)
-    fault = first_fault(library, items, times, each)
+    time, fault = time_or_fault(library, items, first_time(givens, table), each)
     if fault is not None:
         return fault
     call = call_asked(question)
-    if call is not None and not guard_holds(call, times[-1][0]):
+    if call is not None and not guard_holds(call, time[0]):
         return ("guard", aim[1])
-    return verdict(broken_at(question, told, times[-1]))
+    return verdict(broken_at(question, told, time))
 
 
 def verdict(place):
@@ -80,7 +78,6 @@ def unlike_at(question, givens, table):
 def left_by(library, unit, givens, table):
     """The results and the table that a body without calls leaves."""
     body = body_of(library, unit)
-    items = body[0]
-    times = told_times(library, items, first_time(givens, table), by_items(items, ()))
-    names, left = times[-1]
+    each = by_items(body[0], ())
+    (names, left), _ = time_or_fault(library, body[0], first_time(givens, table), each)
     return (given_back(body, names), left)

@@ -4,12 +4,11 @@ from anylength.errors import NoBody, TooLong
 from anylength.times import (
     by_items,
     carried_out,
-    first_fault,
     first_time,
     given_back,
     guard_holds,
     passed,
-    told_times,
+    time_or_fault,
 )
 from anylength.units import body_of, is_call
 
@@ -60,11 +59,9 @@ def answer_behind(library, call, time, begun, most):
 def answered(library, unit, givens, table, answers):
     """What comes out of an answered run of the body, or the first answer that may not be."""
     body = body_of(library, unit)
-    items = body[0]
-    each = by_items(items, answers)
-    times = told_times(library, items, first_time(givens, table), each)
-    fault = first_fault(library, items, times, each)
+    each = by_items(body[0], answers)
+    time, fault = time_or_fault(library, body[0], first_time(givens, table), each)
     if fault is not None:
         return fault
-    names, left = times[-1]
+    names, left = time
     return ("ended", given_back(body, names), left)

@@ -65,23 +65,25 @@ def by_items(items, answers):
 
 
 def told_times(library, items, begun, answers):
-    """The tuple of the times ahead of each item and behind the last one, by an answer for each.
-
-    Behind an answer that is not as it must be, the times have no meaning.
-    """
+    """The times ahead of each item and behind the last one, by an answer for each that is right."""
     times = [begun]
     for i in range(len(items)):
         times.append(carried_out(library, items[i], times[i], answers[i]))
     return tuple(times)
 
 
-def first_fault(library, items, times, answers):
-    """("answer", i, fault) for the first item whose answer is not as it must be, or None."""
+def time_or_fault(library, items, begun, answers):
+    """The pair of the time behind the last item and None, if all answers are as they must be.
+
+    Otherwise the pair of None and ("answer", i, fault) for the first item whose answer is not.
+    """
+    time = begun
     for i in range(len(items)):
-        fault = item_fault(library, items[i], times[i], answers[i])
+        fault = item_fault(library, items[i], time, answers[i])
         if fault is not None:
-            return ("answer", i, fault)
-    return None
+            return (None, ("answer", i, fault))
+        time = carried_out(library, items[i], time, answers[i])
+    return (time, None)
 
 
 def item_fault(library, item, time, answer):
