@@ -3,19 +3,25 @@
 A part is a triple of its kind, its place, which begins the names of its states
 in the layout, and what it works by: ("keep", ("before", c), clause), ("walk",
 ("item", i), walk), ("call", ("item", i), call), ("break", ("goal",), clause),
-("hold", ("goal",), (keys, bits)) or ("unlike", ("goal",), None).
+("hold", ("goal",), (keys, bits)), ("unlike", ("goal",), None) or ASIDE.
 """
 
 from anylength.aims import before_asked, clause_asked, items_asked
 from anylength.terms import terms_from
-from anylength.units import contract_of, is_call
+from anylength.units import contract_of, is_call, items_of
 from anylength.watches import watch_layout
+
+# With the aim "same", what lays now aside between the items of the two units.
+ASIDE = ("aside", ("aside",), None)
 
 
 def parts(question):
     """The tuple of the parts of the question, in their order."""
     watches = [("keep", ("before", c), one) for c, one in watched_clauses(before_asked(question))]
-    return (*watches, *item_parts(question), *goal_parts(question))
+    items = item_parts(question)
+    if question[2][0] == "same":
+        items.insert(len(items_of(question[0], question[1])), ASIDE)
+    return (*watches, *items, *goal_parts(question))
 
 
 def watched_clauses(clauses):
@@ -80,6 +86,8 @@ def state_words(kind, what):
         return (what[0], ("held", *what[1]))
     if kind == "unlike":
         return ((), ("hit",))
+    if kind == "aside":
+        return ((), ())
     return watch_layout(what, kind == "break")
 
 

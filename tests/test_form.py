@@ -13,6 +13,9 @@ BUILTINS = set(
     "len range enumerate zip min max sum abs sorted reversed int str bool list tuple dict set "
     "isinstance ord repr any all divmod ValueError KeyError".split()
 )
+# What may stand over a method or be called in one, and nowhere else.
+IN_CLASSES = set("iter property classmethod".split())
+OWN_METHODS = set("put_contract put_body decide judge apply lacks sound _change _keep _back_to".split())
 METHODS = set(
     "append clear copy count endswith extend find get index insert isalnum isalpha isdigit "
     "islower isspace isupper items join keys ljust lower lstrip partition pop remove replace "
@@ -24,8 +27,10 @@ NODES = set(
     "AugAssign If For While Break Continue Pass Raise Name Load Store Attribute Call Subscript "
     "Slice Tuple List Dict ListComp DictComp SetComp comprehension IfExp BoolOp And Or UnaryOp "
     "Not USub BinOp Add Sub Mult FloorDiv Mod Pow Compare Eq NotEq Lt LtE Gt GtE Is IsNot In "
-    "NotIn JoinedStr FormattedValue Starred keyword Yield".split()
+    "NotIn JoinedStr FormattedValue Starred keyword Yield Lambda Try ExceptHandler Delete Del "
+    "LShift".split()
 )
+DOUBLE_UNDERSCORES = ("__init__", "__len__", "__iter__", "__contains__")
 # Names that rules L8, L15 and L17 keep free, beside those of the builtins above.
 BARRED = set(
     "mro elements open input law version_info with_traceback add_note register type iter next "
@@ -39,10 +44,18 @@ def parsed(path):
     return ast.parse(path.read_text(encoding="ascii"))
 
 
-def bound_names(tree):
-    """All names that a tree binds, with those of parameters."""
+def method_names(tree):
+    """The names of all methods; an import may have such a name, too."""
     for node in ast.walk(tree):
-        if isinstance(node, (ast.FunctionDef, ast.ClassDef)):
+        if isinstance(node, ast.ClassDef):
+            yield from (part.name for part in node.body if isinstance(part, ast.FunctionDef))
+
+
+def bound_names(tree):
+    """All names that a tree binds, with those of parameters, but without those of methods."""
+    methods = [part for node in ast.walk(tree) if isinstance(node, ast.ClassDef) for part in node.body]
+    for node in ast.walk(tree):
+        if isinstance(node, (ast.FunctionDef, ast.ClassDef)) and node not in methods:
             yield node.name
         elif isinstance(node, ast.arg):
             yield node.arg
@@ -85,15 +98,30 @@ class Form(unittest.TestCase):
             for node in ast.walk(tree):
                 self.assertIn(type(node).__name__, NODES, getattr(node, "lineno", 0))
                 if isinstance(node, (ast.FunctionDef, ast.ClassDef)):
-                    self.assertEqual(node.decorator_list, [])
                     documented = ast.get_docstring(node) is not None
-                    self.assertTrue(documented or node.name == "__init__", node.name)
+                    self.assertTrue(documented or node.name in DOUBLE_UNDERSCORES, node.name)
                 if isinstance(node, ast.arg):
                     self.assertIsNone(node.annotation)
                 if isinstance(node, ast.Constant):
                     self.assertIn(type(node.value), (int, str, bool, type(None)))
                 if isinstance(node, ast.Constant) and isinstance(node.value, str):
                     self.assertNotIn("%", node.value)
+
+    def test_decorators_stand_over_methods(self):
+        for _, tree in self.each():
+            methods = [part for node in tree.body if isinstance(node, ast.ClassDef)
+                       for part in node.body if isinstance(part, ast.FunctionDef)]
+            for node in ast.walk(tree):
+                decorators = [one.id for one in getattr(node, "decorator_list", ())]
+                self.assertIn(decorators, ([], ["property"], ["classmethod"]))
+                self.assertTrue(not decorators or node in methods)
+
+    def test_errors_that_are_caught(self):
+        for _, tree in self.each():
+            for node in ast.walk(tree):
+                if isinstance(node, ast.Try):
+                    self.assertEqual([one.type.id for one in node.handlers], ["AnylengthError"])
+                    self.assertEqual((node.orelse, node.finalbody), ([], []))
 
     def test_module_level(self):
         for _, tree in self.each():
@@ -113,6 +141,7 @@ class Form(unittest.TestCase):
                 self.assertTrue(node.module.startswith("anylength."))
                 there = parsed(module_path(node.module)).body
                 defined = [one.name for one in there if isinstance(one, (ast.FunctionDef, ast.ClassDef))]
+                defined += [one.targets[0].id for one in there if isinstance(one, ast.Assign)]
                 for alias in node.names:
                     self.assertIsNone(alias.asname)
                     self.assertIn(alias.name, defined)
@@ -131,20 +160,23 @@ class Form(unittest.TestCase):
             once = [n.name for n in tree.body if isinstance(n, (ast.FunctionDef, ast.ClassDef))]
             self.assertEqual(len(once), len(set(once)))
             for name in bound_names(tree):
-                self.assertRegex(name, r"\A(_|_?[A-Za-z][A-Za-z0-9_]*|__init__)\Z")
-                self.assertNotIn(name, BUILTINS | BARRED | imported)
-                self.assertFalse(hasattr(builtins, name) and name != "__init__", name)
+                self.assertNotIn(name, imported)
+            for name in [*bound_names(tree), *method_names(tree)]:
+                if name not in DOUBLE_UNDERSCORES:
+                    self.assertRegex(name, r"\A(_|_?[A-Za-z][A-Za-z0-9_]*)\Z")
+                    self.assertNotIn(name, BUILTINS | BARRED)
+                    self.assertFalse(hasattr(builtins, name), name)
 
     def test_names_that_are_read_are_bound_or_allowed(self):
         for _, tree in self.each():
-            known = set(bound_names(tree)) | BUILTINS
+            known = set(bound_names(tree)) | BUILTINS | IN_CLASSES
             known |= {alias.name for node in imports_of(tree) for alias in node.names}
             for node in ast.walk(tree):
                 if isinstance(node, ast.Name):
                     self.assertIn(node.id, known)
                     self.assertFalse(node.id == "_" and isinstance(node.ctx, ast.Load))
                 if isinstance(node, ast.Call) and isinstance(node.func, ast.Attribute):
-                    self.assertIn(node.func.attr, METHODS)
+                    self.assertIn(node.func.attr, METHODS | OWN_METHODS)
 
     def test_imported_names_are_used(self):
         for _, tree in self.each():
@@ -173,7 +205,7 @@ class Form(unittest.TestCase):
                 is_call = isinstance(node, ast.Call) and isinstance(node.func, ast.Name)
                 if is_call and node.func.id == "set":
                     self.assertIn(id(node), held)
-                self.assertNotIsInstance(node, (ast.Set, ast.GeneratorExp, ast.Lambda))
+                self.assertNotIsInstance(node, (ast.Set, ast.GeneratorExp))
 
     def test_barred_words(self):
         for _, tree in self.each():
