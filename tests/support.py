@@ -104,3 +104,10 @@ def some_table(chance, shape, rows, keys=4):
         + tuple(chance.random() < 0.5 for _ in range(marks))
         for _ in range(rows)
     )
+
+
+def keys_of(told):
+    """All keys of a told run, one behind another; True and False are no keys."""
+    if isinstance(told, tuple):
+        return tuple(key for part in told for key in keys_of(part))
+    return () if told is None or isinstance(told, bool) else (told,)

@@ -19,6 +19,7 @@ from tests.short import (
 from tests.slow_rows import slow_reached
 from tests.some import some_asked
 from tests.support import asked as twice
+from tests.support import keys_of
 
 levels = twice(module.levels)
 reach = twice(module.reach)
@@ -28,13 +29,6 @@ decide = twice(module.decide)
 FALSE = ("names", NEVER)
 GIVEN = ((("is", "p0", True),),)
 QUESTION = (TOP, 0, ("after", 0))
-
-
-def keys_of(told):
-    """All keys of a told run, one behind another; True and False are no keys."""
-    if isinstance(told, tuple):
-        return tuple(key for part in told for key in keys_of(part))
-    return () if told is None or isinstance(told, bool) else (told,)
 
 
 class Case(unittest.TestCase):
