@@ -5,15 +5,21 @@ import unittest
 from anylength.amalgams import amalgams, chained
 from anylength.bodies import check_body, names_made
 from anylength.clauses import failure, keeps
+from anylength.columns import columns, complete
 from anylength.contracts import answer_fault, bracket, check_contract, ends
+from anylength.deciding import decide, reach, stages
 from anylength.formulas import holds, needs, terms_of
 from anylength.libraries import bound, check_library, with_after
 from anylength.logic import against, negated, possible
 from anylength.obligations import obligations, pieces
 from anylength.orders import alike, count_orders, extensions, orders, ranks
+from anylength.papers import judge, judge_stages, work
 from anylength.playing import play
 from anylength.questions import guessed, layout, width
 from anylength.runs import answered, run, traced
+from anylength.stores import Store
+from anylength.strongest import promise
+from anylength.tracks import follow, path, told_run
 from anylength.walks import go, goes, states_between, visits
 from anylength.watches import watch_layout, watched
 from tests.support import slow_ranks
@@ -119,6 +125,62 @@ class PassedOn(unittest.TestCase):
         self.assertEqual((len(keys), len(bits)), (1 + 6, 12))
         wanted = count_orders(len(keys + more_keys)) * 2 ** len(bits + more_bits)
         self.assertEqual(width(question), wanted)
+
+    def test_tracks_and_told_runs_of_many_rows(self):
+        walk = ("up", (), (False, False), (
+            ((("is", "f0", False),), (("f0", True),), False),
+            ((("is", "f1", False),), (("f0", False), ("f1", True)), False),
+            ((), (("f0", False), ("f1", False), ("m0", True)), False),
+        ), ())
+        then = (*walk[:3], (((("is", "m0", False),), (), False),) + tuple(
+            (guard, assignments + ((("m0", False),) if len(assignments) < 3 else ()), False)
+            for guard, assignments, _ in walk[3]), ())
+        unmarked = (("is", "m0", False),)
+        bare = ((0, 0), (0, 0), (("each", (unmarked,)),), (("each", (unmarked,)),), None)
+        told = ((1, 1), ((bare, ((walk, then, then), (), ())),))
+        question = (told, 0, ("after", 0))
+        verdict, run_told = decide(question)
+        self.assertEqual((verdict, len(run_told[1])), ("broken", 64))
+        track = path(question, run_told)
+        self.assertEqual(told_run(question, track), run_told)
+        found = follow(question, track)
+        self.assertEqual((len(found), complete(question, found[-1][:2])), (65, True))
+        self.assertEqual(play(question, run_told)[0], "broken")
+        self.assertIsNone(judge_stages(question, stages(question, 12)))
+
+    def test_papers_borders_and_stages_that_were_returned(self):
+        swap = ("up", ("x0", 0), (), (((), (("r0", "k0"), ("k0", "r0"), ("r1", "r0")), False),), ("r0",))
+        shares = ((1, ((("=", "x0", "v0"),),)), (-1, ((("=", "y0", "v0"),),)))
+        own = ((1, 0), (1, 0), (), (("change", ((("=", "k0", "v0"),),), 1, shares),), None)
+        question = (((1, 0), ((own, ((swap,), ("n0",), ())),)), 0, ("after", 0))
+        verdict, paper = decide(question)
+        self.assertEqual(verdict, "holds")
+        self.assertGreater(len(paper), 900)
+        self.assertIsNone(judge(question, paper))
+        self.assertGreater(work(question, paper), 9000)
+        for keys, bits, _ in paper[::300]:
+            found = columns(question, (keys, bits))
+            self.assertEqual(ranks(found[-1][0]), found[-1][0])
+            self.assertIn(complete(question, (keys, bits)), (True, False))
+            track = reach(question, (keys, bits))
+            self.assertEqual(ranks(follow(question, track)[-1][0]), keys)
+
+    def test_promises_and_logs_that_were_returned(self):
+        bare = ((2, 0), (0, 0), (), (), None)
+        told = ((1, 0), ((bare, ((), (), ())),))
+        strong = promise(told, 0, ("x0", "x1", "k0"), ())
+        self.assertGreater(len(strong[1]), 3)
+        wider = with_after(told, 0, (strong,))
+        self.assertIsNone(check_library(wider))
+        self.assertEqual(decide((wider, 0, ("after", 0)))[0], "holds")
+        store = Store((1, 0))
+        store.put_contract(0, wider[1][0][0])
+        store.put_body(0, ((), (), ()))
+        for _ in range(50):
+            store.decide(0, 0)
+        self.assertIsNone(store.judge(0, 0, store.evidence(0, 0) * 3))
+        other = Store.made((1, 0), store.log)
+        self.assertEqual((len(other.log), other.log, other.status(0)), (53, store.log, ("holds",)))
 
 
 if __name__ == "__main__":
