@@ -66,10 +66,8 @@ def turn(stand, at, line, guess):
     if kind == "keep":
         return watch_step(what, False, view, state, (line.found, line.found), False)
     if kind == "break":
-        # What a call is asked about is what the called unit finds.
-        asked_of_call = stand.plan.question[2][0] == "call"
-        rows = (line.now if asked_of_call else line.found, line.now)
-        return watch_step(what, True, view, state, rows, line.picked)
+        # A clause of before of a called unit reads no row as it was found, so found will do there, too.
+        return watch_step(what, True, view, state, (line.found, line.now), line.picked)
     if kind == "hold":
         return hold_turn(what, state, line)
     if kind == "unlike":

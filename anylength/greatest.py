@@ -2,8 +2,6 @@
 
 from anylength.deciding import decide
 from anylength.libraries import with_after
-from anylength.limits import check_limit
-from anylength.questions import width
 
 
 def stands(library, unit, clauses, *, limit=10000):
@@ -15,13 +13,13 @@ def stands(library, unit, clauses, *, limit=10000):
 def broken_ones(library, unit, clauses, limit):
     """The list of the pairs of the number of a clause that is broken and of a told run."""
     together = with_after(library, unit, clauses)
-    asked = [(together, unit, ("clause", clause)) for clause in clauses]
-    # All widths come first, so that no question is decided where one is too wide.
-    for question in asked:
-        check_limit(width(question), limit)
-    verdicts = [decide(question, limit=limit) for question in asked]
-    numbers = range(len(clauses))
-    return [(at, verdicts[at][1]) for at in numbers if verdicts[at][0] == "broken"]
+    broken = []
+    for at in range(len(clauses)):
+        # All are decided, so that a question behind a broken one may be too wide, too.
+        verdict, told = decide((together, unit, ("clause", clauses[at])), limit=limit)
+        if verdict == "broken":
+            broken.append((at, told))
+    return broken
 
 
 def fallen_in(library, unit, candidates, left, limit):

@@ -58,10 +58,8 @@ def is_down(part):
 
 
 def part_shares(question, part):
-    """The shares of the bracket of a part, None if it is not bracketed or no call of a sum."""
-    if part[0] != "call" or counted_formula(question) is None:
-        return None
-    return bracket_shares(question, part[2])
+    """The shares of the bracket of a part, None if it is not bracketed, or no call."""
+    return bracket_shares(question, part[2]) if part[0] == "call" else None
 
 
 def call_watches(library, part):

@@ -617,6 +617,13 @@ class EntriesAndColumns(unittest.TestCase):
             columns(question, ((3, 5), ()))
         self.assertEqual(caught.exception.number, number)
 
+    def test_the_column_that_is_told_of(self):
+        # A greater key is taken, and greater than the result that was guessed: this cannot end well.
+        question = (TOP, 0, ("after", 0))
+        self.assertEqual(layout(question), ((("name", "n0"), ("item", 0, "r0")), (("goal", "hit"),)))
+        self.assertIn(((1, 1, 2), (), 0, ((1, 2), (True,))), columns(question, ((1, 1), (False,))))
+        self.assertFalse(complete(question, ((1, 2), (True,))))
+
     def test_the_order_the_bits_the_weight_and_the_picture(self):
         walk = ("up", (), (), (((("is", "m0", True),), (("k0", "x0"),), False),), ())
         question = asked((1, 1), ("clause", ("change", OFTEN, 1, ())), (contract((1, 0)), body(walk)))

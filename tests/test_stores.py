@@ -420,6 +420,16 @@ class Lacks(Case):
         self.assertEqual((store.sound(0), store.total(0)), (True, False))
         self.assertEqual((store.sound(1), store.total(1)), (True, True))
 
+    def test_what_was_changed_last_counts(self):
+        store = Store((0, 1))
+        store.put_contract(0, contract())
+        store.put_body(0, body())
+        self.assertEqual((store.sound(0), store.total(0)), (True, True))
+        store.put_body(0, body(call(0)))
+        self.assertEqual((store.sound(0), store.total(0)), (True, False))
+        store.undo()
+        self.assertEqual((store.sound(0), store.total(0)), (True, True))
+
     def test_units_that_call_each_other(self):
         store = Store((0, 1))
         for unit in (0, 1):
