@@ -188,7 +188,8 @@ class Stages(Case):
         self.assertEqual(stages(counted, 5), tuple((((), one, 1),) for one in bits))
 
     def test_weights_for_so_many_rows(self):
-        question = asked((0, 1), ("clause", ("change", MARKED, 0, ())), (contract(before=(("each", UNMARKED),)), body(SET)))
+        told = contract(before=(("each", UNMARKED),))
+        question = asked((0, 1), ("clause", ("change", MARKED, 0, ())), (told, body(SET)))
         # A sum of as many as there are rows: each number of rows has one weight, all together do not.
         self.assertEqual(stages(question, 4), tuple((((), (), many),) for many in range(4)))
         question = asked((0, 1), ("clause", ("change", MARKED, 0, ())), (contract(), body(SET)))
@@ -448,6 +449,55 @@ class Decide(Case):
             for clause in (FALSE, ("each", NEVER), ("some", NEVER), ("change", MARKED, 0, ((1, ALWAYS),))):
                 question = self.clause(clause, SET, before=before)
                 self.assertEqual(self.holds(question) == (), entries(question) == ())
+
+
+def some_marking_walk(chance):
+    """A walk whose rules read and set its flags and the mark; it makes one of its flags."""
+    def literal():
+        return ("is", chance.choice(("f0", "f1", "m0")), chance.random() < 0.5)
+
+    def rule():
+        targets = chance.sample(("f0", "f1", "m0"), chance.randrange(1, 4))
+        sources = (True, False, "f0", "f1", "m0")
+        return (tuple(literal() for _ in range(chance.randrange(3))),
+                tuple((target, chance.choice(sources)) for target in targets), chance.random() < 0.3)
+
+    rules = tuple(rule() for _ in range(chance.randrange(1, 5)))
+    return (chance.choice(("up", "up", "down")), (), (False, False), rules, (chance.choice(("f0", "f1")),))
+
+
+def some_marking(chance):
+    """A sum of marks, by what walks that hand bits on give back; it is kept without rows more often."""
+    items = tuple(some_marking_walk(chance) for _ in range(chance.randrange(1, 3)))
+    spread = ("next", UNMARKED + ((("is", "M0", True),),))
+    before = chance.choice(((), (("some", MARKED),), (("each", MARKED),), (spread,)))
+    shares = tuple((chance.choice((-2, -1, 1, 2)), ((("is", chance.choice(("q0", "p0")), True),),))
+                   for _ in range(chance.randrange(3)))
+    own = contract((0, 1), (0, 1), before, (("change", MARKED, 0, shares),))
+    return asked((0, 1), ("after", 0), (own, body(*items, bits=(f"g{chance.randrange(len(items))}",))))
+
+
+class Sums(Case):
+    def test_against_all_weights(self):
+        # Here all weights of a picture are followed, however many there are.
+        chance = random.Random(23)
+        rows = {}
+        for _ in range(120):
+            question = some_marking(chance)
+            if width(question) > 1100:
+                continue
+            verdict, told = decide(question)
+            bad = [any(complete(question, picture) and some != {0} for picture, some in level.items())
+                   for level in slow_reached(question, 4)]
+            if verdict == "broken":
+                self.check_told(question, told)
+                self.assertEqual(bad.index(True) if True in bad else 5, min(len(told[1]), 5))
+                rows[len(told[1])] = rows.get(len(told[1]), 0) + 1
+            else:
+                self.check_paper(question, told)
+                self.assertNotIn(True, bad)
+                rows[verdict] = rows.get(verdict, 0) + 1
+        self.assertLessEqual({"holds", 0, 1, 2}, set(rows))
 
 
 class SlowAccount(Case):

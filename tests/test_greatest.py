@@ -96,7 +96,8 @@ class Rounds(Case):
 
     def test_none_is_left(self):
         self.assertEqual(self.check(LOOP, 0, (EVERY,)), (((0,), (0,)), ((), ())))
-        self.assertEqual(self.check(LOOP, 0, (("some", NEVER), EVERY, ("names", NEVER))), (((0, 1, 2), (0, 1, 2)), ((), ())))
+        told = self.check(LOOP, 0, (("some", NEVER), EVERY, ("names", NEVER)))
+        self.assertEqual(told, (((0, 1, 2), (0, 1, 2)), ((), ())))
 
     def test_candidates_that_hang_on_each_other(self):
         # Two bits are handed on from call to call, each to the place of the other one.

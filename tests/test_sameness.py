@@ -93,9 +93,10 @@ class Same(Case):
         self.assertEqual(self.unlike(library, 0, ("results",))[0], ((1,), ()))
 
     def test_rows(self):
-        for one, other, rows in (((SET,), (UNSET,), 1), ((SET, UNSET), (UNSET,), None), ((UNSET, SET), (SET,), None),
-                                 ((), (), None), ((SET,), (), 1), ((THREE,), (UNSET,), 4), ((THREE, THREE), (UNSET,), 7),
-                                 ((THREE, THREE), (THREE,), 4)):
+        for one, other, rows in (
+            ((SET,), (UNSET,), 1), ((SET, UNSET), (UNSET,), None), ((UNSET, SET), (SET,), None), ((), (), None),
+            ((SET,), (), 1), ((THREE,), (UNSET,), 4), ((THREE, THREE), (UNSET,), 7), ((THREE, THREE), (THREE,), 4),
+        ):
             library = self.bodies((0, 1), body(*one), body(*other))
             if rows is None:
                 self.same(library)
@@ -140,7 +141,8 @@ class Same(Case):
         self.unlike(((0, 1), ((one, body(SET)), (one, body()))), 1, ("row", 0))
 
     def test_told_runs_are_runs_from_before_of_both(self):
-        before = ((("names", ((("<", "x0", "x1"),),)),), (("some", ((("=", "k0", "x1"),),)), ("names", ((("<", 0, "x0"),),))))
+        before = ((("names", ((("<", "x0", "x1"),),)),),
+                  (("some", ((("=", "k0", "x1"),),)), ("names", ((("<", 0, "x0"),),))))
         library = self.bodies((1, 0), body(keys=("x0",)), body(keys=("x1",)), (2, 0), (1, 0), before)
         told = self.unlike(library, 1, ("results",))
         self.assertEqual(told[:2], (((1, 2), ()), ((2,),)))

@@ -240,7 +240,8 @@ class PutBody(Case):
         store.put_contract(1, CLEAR)
         for told, error, wanted in (
             (body(), BadResults, {}), (body(bits=("g0",)), BadTerm, {"term": "g0"}),
-            (body(call(2), bits=(True,)), NoContract, {"unit": 2}), (body(call(1, (0,)), bits=(True,)), BadCall, {"item": 0}),
+            (body(call(2), bits=(True,)), NoContract, {"unit": 2}),
+            (body(call(1, (0,)), bits=(True,)), BadCall, {"item": 0}),
             (body(SET, call(1, (), (True,)), bits=(True,)), BadCall, {"item": 1}),
         ):
             self.unchanged(store, error, lambda: store.put_body(0, told), **wanted)
@@ -470,7 +471,8 @@ class Apply(Case):
                        ("body", 0, HASTY_BODY), ("decide", 0, 0))
             self.unchanged(store, error, lambda: store.apply(changes + (last, ("contract", 3, contract()))))
             self.unchanged(store, error, lambda: store.apply((("body", 1, None), last)))
-        self.unchanged(store, BadTerm, lambda: store.apply((("contract", 2, contract(before=(("names", ((("=", "x0", 0),),)),))),)))
+        wrong = contract(before=(("names", ((("=", "x0", 0),),)),))
+        self.unchanged(store, BadTerm, lambda: store.apply((("contract", 2, wrong),)), term="x0")
         self.assertEqual(len(store), 2)
 
     def test_too_wide(self):
@@ -541,7 +543,8 @@ class Made(Case):
     def test_errors(self):
         for shape, changes, limit, error in (
             ((0, 1), (("decide", 0, 0),), 10000, NoContract), ((1, 0), Apply.CHANGES, 10000, BadTerm),
-            ((0, 1), Apply.CHANGES, 7, TooWide), ((0, 1), Apply.CHANGES[:1] + (("body", 0, body()),), 10000, BadResults),
+            ((0, 1), Apply.CHANGES, 7, TooWide),
+            ((0, 1), Apply.CHANGES[:1] + (("body", 0, body()),), 10000, BadResults),
         ):
             with self.assertRaises(error):
                 Store.made(shape, changes, limit=limit)
@@ -767,7 +770,8 @@ class SoundUnits(Case):
             store.put_contract(0, contract(after=(("each", UNMARKED),)))
             store.put_body(0, body(UNSET))
             store.put_contract(1, contract(before=(("next", ASCENDING),), falls=falls,
-                                           after=(("each", MARKED + UNMARKED), ("next", ASCENDING), ("each", ((("=", "k0", "w0"),),)))))
+                                           after=(("each", MARKED + UNMARKED), ("next", ASCENDING),
+                                                  ("each", ((("=", "k0", "w0"),),)))))
             store.put_body(1, body(*items))
             all_decided(store)
             for unit in (0, 1):

@@ -150,7 +150,8 @@ class Follow(unittest.TestCase):
 
     def test_a_guess_that_is_not_allowed(self):
         told = contract(before=(("next", ASCENDING), ("names", ALWAYS)))
-        question = asked((1, 0), ("clause", ("names", ((("=", "x0", 0),),))), (contract((1, 0), before=told[2]), body()))
+        zero = ("names", ((("=", "x0", 0),),))
+        question = asked((1, 0), ("clause", zero), (contract((1, 0), before=told[2]), body()))
         good = (((4,), ()), ((3,), ()), ((3,), ()), ((2,), ()), ((9,), ()))
         borders = (((4, 0), (False,), 1), ((4, 3), (True,), 1), ((4, 3), (True,), 1))
         self.assertEqual(follow(question, good), borders)
